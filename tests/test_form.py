@@ -1,0 +1,199 @@
+"""The form of the package: what of the language's rules can be read off its files, and the interface."""
+
+import ast
+import builtins
+import pathlib
+import unittest
+
+PACKAGE = pathlib.Path(__file__).resolve().parent.parent / "wholepoll"
+LIBRARY = {"math": {"gcd", "lcm", "isqrt", "comb", "perm", "factorial"}}
+BARRED_WORDS = {
+    "type", "typing", "enum", "Enum", "Flag", "Generic", "Protocol", "ABC", "namedtuple", "dataclass", "open", "input",
+    "register", "mro", "elements", "law",
+}
+
+# By file: its functions with their parameters; its classes, each with its bases and its methods.
+FUNCTIONS = {
+    "wholes": {"is_whole": "thing", "divisor": "one other", "down": "top bottom", "up": "top bottom"},
+    "ratios": {
+        "fraction": "top bottom", "plus": "one other", "minus": "one other", "times": "one other", "parted": "one other",
+        "total": "some", "under": "one other", "least_from": "one", "least_above": "one",
+    },
+    "words": {"is_word": "thing", "is_count": "thing most", "is_order": "thing many"},
+    "sets": {
+        "all_of": "hands", "with_one": "mask hand", "without": "mask hand", "holds": "mask hand", "size": "mask",
+        "members": "mask",
+    },
+    "ballots": {"slip_of": "ranks hands", "ranks_of": "slip hands", "prefers": "slip x y", "lies": "slip standing"},
+    "sheets": {
+        "sheet_of": "lines", "joined": "sheets", "ballots_in": "sheet", "number_of": "sheet slip", "apart": "one other",
+        "changed": "sheet change", "is_slip": "thing hands", "is_sheet": "thing hands",
+    },
+    "tellings": {
+        "is_telling": "thing", "lives_by": "telling", "telling_key": "telling", "standing": "tellings",
+        "clashing": "tellings",
+    },
+    "stretches": {
+        "stretches": "roll voter", "moved": "roll before after wait", "sizes": "roll day wait",
+        "touched": "roll telling day wait", "day_from": "roll voter area wait",
+    },
+    "envelopes": {"is_envelope": "thing hands", "are_rules": "thing", "standing_envelopes": "envelopes"},
+    "admitted": {
+        "verdicts": "roll rules envelopes struck", "verdict": "roll rules envelopes struck number",
+        "counted": "roll rules envelopes struck", "mailed": "roll rules envelopes struck",
+        "heard": "roll rules envelopes struck", "struck_turns": "roll rules envelopes struck number",
+    },
+    "codes": {"code_of": "line hands", "line_of": "code hands"},
+    "seals": {"seal_of": "codes", "mended": "codes seal"},
+}
+CLASSES = {
+    "errors": {
+        name: ("PollError", {}) for name in (
+            "NoNumber", "NoBallot", "NoSheet", "NoChange", "Torn", "NoBundle", "NoWay", "NoRoll", "NoTelling", "NoEnvelope",
+            "NoLand", "NoPoll", "NoDeed", "Ended", "Nothing", "NoText", "NoRow",
+        )
+    },
+    "rolls": {"Roll": ("", {
+        "__init__": "self areas tellings", "__eq__": "self other", "__or__": "self other", "tell": "self telling",
+        "untell": "self telling", "told": "self", "clashes": "self", "voters": "self area day wait", "everybody": "self",
+        "place": "self voter day", "votes_in": "self voter day wait", "is_barred": "self voter day", "copied": "self",
+    })},
+    "boxes": {"Box": ("", {
+        "__init__": "self hands", "many": "self", "take": "self codes seal", "lines_at": "self k", "sheet_at": "self k",
+        "sheet": "self", "seal_at": "self k", "put_right": "self k lines",
+    })},
+}
+CLASSES["errors"]["PollError"] = ("ValueError", {})
+CLASSES["errors"]["WrongNumber"] = ("PollError", {"__init__": "self wanted got"})
+CLASSES["errors"]["TooMany"] = ("PollError", {"__init__": "self most"})
+
+
+def files():
+    return sorted(path for path in PACKAGE.iterdir() if path.name != "__pycache__")
+
+
+def trees():
+    return {path.stem: ast.parse(path.read_text()) for path in files()}
+
+
+def parameters(function):
+    return " ".join(one.arg for one in function.args.args)
+
+
+def defined(body, kind):
+    return {one.name: one for one in body if isinstance(one, kind)}
+
+
+class Files(unittest.TestCase):
+    def test_names_and_signs(self):
+        for path in files():
+            self.assertTrue(path.is_file() and path.suffix == ".py", path)
+            text = path.read_text()
+            self.assertLess(len(text.splitlines()), 400, path)
+            self.assertTrue(all(sign == "\n" or " " <= sign <= "~" for sign in text), path)
+            self.assertTrue(all(len(line) <= 120 for line in text.splitlines()), path)
+
+    def test_functions_are_small(self):
+        for name, tree in trees().items():
+            for node in ast.walk(tree):
+                if isinstance(node, ast.FunctionDef):
+                    self.assertLessEqual(node.end_lineno - node.lineno + 1, 40, (name, node.name))
+
+    def test_imports(self):
+        there = trees()
+        graph = {}
+        for name, tree in there.items():
+            graph[name] = []
+            for node in ast.walk(tree):
+                self.assertNotIsInstance(node, ast.Import, name)
+                if isinstance(node, ast.ImportFrom):
+                    self.assertIn(node, tree.body, name)
+                    names = {alias.name for alias in node.names}
+                    if node.module in LIBRARY:
+                        self.assertLessEqual(names, LIBRARY[node.module], name)
+                        continue
+                    folder, file = node.module.split(".")
+                    self.assertEqual((folder, node.level), ("wholepoll", 0), name)
+                    graph[name].append(file)
+                    bound = set(defined(there[file].body, (ast.FunctionDef, ast.ClassDef)))
+                    bound |= {one.targets[0].id for one in there[file].body if isinstance(one, ast.Assign)}
+                    self.assertLessEqual(names, bound, (name, file))
+        while graph:
+            free = [name for name in graph if not set(graph[name]) & set(graph)]
+            self.assertTrue(free, f"files import from each other: {sorted(graph)}")
+            for name in free:
+                del graph[name]
+
+
+class Rules(unittest.TestCase):
+    def test_what_is_not_used(self):
+        for name, tree in trees().items():
+            for node in ast.walk(tree):
+                barred = (ast.Div, ast.AsyncFunctionDef, ast.Await)
+                self.assertNotIsInstance(node, barred, (name, getattr(node, "lineno", 0)))
+                if isinstance(node, ast.Constant):
+                    self.assertNotIsInstance(node.value, (float, complex), name)
+                    self.assertFalse(isinstance(node.value, str) and "%" in node.value, name)
+
+    def test_beside_a_class_that_compares(self):
+        for name, tree in trees().items():
+            for node in ast.walk(tree):
+                if isinstance(node, ast.Attribute):
+                    self.assertNotEqual(node.attr, "sort", name)
+                if isinstance(node, ast.Call) and isinstance(node.func, ast.Name):
+                    if node.func.id in ("any", "all", "min", "max", "sum", "sorted"):
+                        for part in node.args:
+                            self.assertNotIsInstance(part, ast.GeneratorExp, (name, node.lineno))
+
+    def test_names(self):
+        for name, tree in trees().items():
+            outer = set(defined(tree.body, ast.ClassDef))
+            for node in tree.body:
+                if isinstance(node, ast.ImportFrom):
+                    outer |= {alias.name for alias in node.names}
+            bound = set(defined(tree.body, (ast.FunctionDef, ast.ClassDef)))
+            inner = set()
+            for node in ast.walk(tree):
+                if isinstance(node, ast.Name):
+                    self.assertNotIn(node.id, BARRED_WORDS, name)
+                    if isinstance(node.ctx, ast.Store):
+                        inner.add(node.id)
+                elif isinstance(node, ast.arg):
+                    inner.add(node.arg)
+                elif isinstance(node, ast.Attribute):
+                    self.assertNotIn(node.attr, BARRED_WORDS, name)
+            self.assertFalse(inner & outer, name)
+            self.assertFalse((inner | bound) & set(dir(builtins)), name)
+            self.assertFalse((inner | bound) & BARRED_WORDS, name)
+
+    def test_module_level(self):
+        for name, tree in trees().items():
+            for node in tree.body:
+                if isinstance(node, ast.Expr):
+                    self.assertIsInstance(node.value.value, str, name)
+                elif isinstance(node, ast.Assign):
+                    ast.literal_eval(node.value)
+                else:
+                    self.assertIsInstance(node, (ast.FunctionDef, ast.ClassDef, ast.ImportFrom), name)
+
+
+class Interface(unittest.TestCase):
+    def test_functions(self):
+        there = trees()
+        for file, rows in FUNCTIONS.items():
+            functions = defined(there[file].body, ast.FunctionDef)
+            for name in rows:
+                self.assertIn(name, functions, file)
+                self.assertEqual(parameters(functions[name]), rows[name], (file, name))
+
+    def test_classes(self):
+        there = trees()
+        for file, rows in CLASSES.items():
+            classes = defined(there[file].body, ast.ClassDef)
+            for name, (base, methods) in rows.items():
+                self.assertIn(name, classes, file)
+                self.assertEqual(" ".join(one.id for one in classes[name].bases), base, (file, name))
+                functions = defined(classes[name].body, ast.FunctionDef)
+                for method in methods:
+                    self.assertIn(method, functions, (file, name))
+                    self.assertEqual(parameters(functions[method]), methods[method], (file, name, method))

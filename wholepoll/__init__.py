@@ -1,0 +1,1 @@
+"""Wholepoll: an election whole, from the rolls to the last late truth."""

@@ -1,0 +1,31 @@
+"""Masks: sets of hands as the bits of a whole number."""
+
+
+def all_of(hands):
+    """The mask of the first so many hands."""
+    return (1 << hands) - 1
+
+
+def holds(mask, hand):
+    """Whether a hand is in a mask."""
+    return (mask >> hand) & 1 == 1
+
+
+def with_one(mask, hand):
+    """The mask with that hand."""
+    return mask | (1 << hand)
+
+
+def without(mask, hand):
+    """The mask without that hand."""
+    return mask & ~(1 << hand)
+
+
+def size(mask):
+    """How many hands are in a mask."""
+    return len(members(mask))
+
+
+def members(mask):
+    """The hands of a mask, rising."""
+    return [hand for hand in range(mask.bit_length()) if holds(mask, hand)]
