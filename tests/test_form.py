@@ -7,6 +7,15 @@ import unittest
 
 PACKAGE = pathlib.Path(__file__).resolve().parent.parent / "wholepoll"
 LIBRARY = {"math": {"gcd", "lcm", "isqrt", "comb", "perm", "factorial"}}
+BUILTINS = set(
+    "len range enumerate zip min max sum abs sorted reversed int str bool list tuple dict set isinstance ord repr any all "
+    "divmod super ValueError KeyError ZeroDivisionError NotImplemented".split()
+)
+METHODS = set(
+    "append clear copy count endswith extend find get index insert isalnum isalpha isdigit islower isspace isupper items "
+    "join keys ljust lower lstrip partition pop remove replace reverse rfind rjust rpartition rsplit rstrip setdefault "
+    "split splitlines startswith strip update upper values zfill bit_length add discard __init__".split()
+)
 BARRED_WORDS = {
     "type", "typing", "enum", "Enum", "Flag", "Generic", "Protocol", "ABC", "namedtuple", "dataclass", "open", "input",
     "register", "mro", "elements", "law",
@@ -45,6 +54,16 @@ FUNCTIONS = {
     },
     "codes": {"code_of": "line hands", "line_of": "code hands"},
     "seals": {"seal_of": "codes", "mended": "codes seal"},
+    "published": {"is_listing": "thing hands", "fits": "listings votes", "listing_of": "votes voters"},
+    "hidden": {
+        "groups": "listings", "may_say": "listings voter", "newly_known": "listings listing", "clash": "listings",
+        "how_many": "listings", "votes_with": "listings voter slip", "known": "listings",
+    },
+    "strong": {
+        "overs": "sheet hands", "leads_of": "many", "strength": "leads", "way_between": "leads x y",
+        "cut_between": "leads x y",
+    },
+    "lists": {"votes_of": "sheet hands"},
 }
 CLASSES = {
     "errors": {
@@ -62,6 +81,24 @@ CLASSES = {
         "__init__": "self hands", "many": "self", "take": "self codes seal", "lines_at": "self k", "sheet_at": "self k",
         "sheet": "self", "seal_at": "self k", "put_right": "self k lines",
     })},
+    "ways": {
+        "Way": ("", {
+            "__init__": "self hands seats lots", "ahead": "self one other", "counted": "self sheet",
+            "told_by": "self paper", "outcome": "self sheet",
+        }),
+        "Checker": ("", {
+            "__init__": "self way", "right": "self sheet paper", "passes": "self sheet paper outcome",
+        }),
+    },
+    "pairs": {"Pairs": ("Way", {
+        "beats": "self sheet x y", "unbeaten": "self sheet", "counted": "self sheet", "told_by": "self paper",
+    })},
+    "paircheck": {"PairsChecker": ("Checker", {"right": "self sheet paper"})},
+    "lists": {"Lists": ("Way", {
+        "__init__": "self hands seats lots hurdle step", "least_votes": "self ballots", "mark": "self many had",
+        "counted": "self sheet", "told_by": "self paper", "outcome": "self sheet",
+    })},
+    "listcheck": {"ListsChecker": ("Checker", {"right": "self sheet paper"})},
 }
 CLASSES["errors"]["PollError"] = ("ValueError", {})
 CLASSES["errors"]["WrongNumber"] = ("PollError", {"__init__": "self wanted got"})
@@ -165,6 +202,33 @@ class Rules(unittest.TestCase):
             self.assertFalse(inner & outer, name)
             self.assertFalse((inner | bound) & set(dir(builtins)), name)
             self.assertFalse((inner | bound) & BARRED_WORDS, name)
+
+    def test_what_is_called(self):
+        there = trees()
+        own = {node.name for tree in there.values() for node in ast.walk(tree) if isinstance(node, ast.FunctionDef)}
+        for name, tree in there.items():
+            for node in ast.walk(tree):
+                if isinstance(node, ast.Name) and node.id in dir(builtins):
+                    self.assertIn(node.id, BUILTINS, (name, node.lineno))
+                elif isinstance(node, ast.Call) and isinstance(node.func, ast.Attribute):
+                    self.assertIn(node.func.attr, METHODS | own, (name, node.lineno))
+                elif isinstance(node, ast.Compare):
+                    sides = [node.left] + node.comparators
+                    for sign, side in zip(node.ops, sides[1:]):
+                        if isinstance(sign, (ast.Is, ast.IsNot)):
+                            self.assertIn(getattr(side, "value", side), (None, True, False), (name, node.lineno))
+
+    def test_no_name_is_a_method_and_an_attribute(self):
+        methods, attributes = {}, {}
+        for name, tree in trees().items():
+            for made in defined(tree.body, ast.ClassDef).values():
+                for function in defined(made.body, ast.FunctionDef).values():
+                    methods.setdefault(function.name, []).append((name, made.name))
+            for node in ast.walk(tree):
+                if isinstance(node, ast.Attribute) and isinstance(node.ctx, ast.Store):
+                    attributes[node.attr] = name
+                    self.assertNotIn(node.attr, METHODS, name)
+        self.assertFalse(set(methods) & set(attributes))
 
     def test_module_level(self):
         for name, tree in trees().items():
