@@ -64,6 +64,8 @@ FUNCTIONS = {
         "cut_between": "leads x y",
     },
     "lists": {"votes_of": "sheet hands"},
+    "shifts": {"free_for": "sheet slip", "shift": "sheet x y slip many"},
+    "evening": {"evening": "land votes had", "evened_by": "land paper", "waiting": "land votes had"},
 }
 CLASSES = {
     "errors": {
@@ -99,6 +101,26 @@ CLASSES = {
         "counted": "self sheet", "told_by": "self paper", "outcome": "self sheet",
     })},
     "listcheck": {"ListsChecker": ("Checker", {"right": "self sheet paper"})},
+    "margins": {"Margin": ("", {
+        "__init__": "self way", "possible": "self sheet", "shows": "self sheet low paper",
+        "held": "self seen unseen known", "least": "self sheet", "high": "self sheet", "told": "self sheet",
+        "slip_for": "self x y",
+    })},
+    "pairmargin": {"PairsMargin": ("Margin", {
+        "slip_for": "self x y", "least": "self sheet", "shows": "self sheet low paper", "held": "self seen unseen known",
+    })},
+    "listmargin": {"ListsMargin": ("Margin", {
+        "possible": "self sheet", "least": "self sheet", "high": "self sheet", "told": "self sheet",
+        "shows": "self sheet low paper", "held": "self seen unseen known",
+    })},
+    "lands": {"Land": ("", {
+        "__init__": "self areas evened lots hurdle step", "ahead": "self one other", "votes": "self sheets",
+        "least_votes": "self ballots", "mark": "self many had",
+    })},
+    "house": {"House": ("", {
+        "__init__": "self land sheets", "by_area": "self", "of_evening": "self", "in_all": "self", "outcome": "self",
+        "paper": "self", "led": "self area sheet",
+    })},
 }
 CLASSES["errors"]["PollError"] = ("ValueError", {})
 CLASSES["errors"]["WrongNumber"] = ("PollError", {"__init__": "self wanted got"})
