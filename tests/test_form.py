@@ -66,6 +66,21 @@ FUNCTIONS = {
     "lists": {"votes_of": "sheet hands"},
     "shifts": {"free_for": "sheet slip", "shift": "sheet x y slip many"},
     "evening": {"evening": "land votes had", "evened_by": "land paper", "waiting": "land votes had"},
+    "levelled": {"levelled": "land sheets * most"},
+    "evenmargin": {"even_cases": "land sheets", "even_least": "land sheets"},
+    "lots": {
+        "settles": "land bundles lot", "least_lots": "land bundles", "greatest_open": "land bundles",
+        "must_look": "land bundles", "fewest": "land bundles",
+    },
+    "looks": {"order_of": "number many"},
+    "stillarea": {
+        "greatest_seats": "way sheet unseen group", "least_seats": "way sheet unseen group",
+        "bring": "way sheet unseen group seats", "sure_seats": "way sheet unseen",
+    },
+    "stillland": {
+        "outcomes": "land seen unseen", "houses": "land seen unseen", "between": "land seen unseen",
+        "sheets_for": "land seen unseen outcome", "is_settled": "land seen unseen",
+    },
 }
 CLASSES = {
     "errors": {
@@ -121,6 +136,17 @@ CLASSES = {
         "__init__": "self land sheets", "by_area": "self", "of_evening": "self", "in_all": "self", "outcome": "self",
         "paper": "self", "led": "self area sheet",
     })},
+    "housecheck": {"HouseChecker": ("", {
+        "__init__": "self land", "right": "self sheets paper", "passes": "self sheets paper outcome",
+    })},
+    "landmargin": {"LandMargin": ("", {
+        "__init__": "self land", "is_exact": "self", "shows": "self sheets low paper", "held": "self seen unseen known",
+        "lows": "self sheets", "least": "self sheets", "high": "self sheets",
+    })},
+    "looks": {"Look": ("", {
+        "__init__": "self land bundles number", "unlooked": "self", "known": "self", "word": "self", "due": "self",
+        "found": "self lines",
+    })},
 }
 CLASSES["errors"]["PollError"] = ("ValueError", {})
 CLASSES["errors"]["WrongNumber"] = ("PollError", {"__init__": "self wanted got"})
@@ -136,7 +162,15 @@ def trees():
 
 
 def parameters(function):
-    return " ".join(one.arg for one in function.args.args)
+    names = [one.arg for one in function.args.args]
+    if function.args.kwonlyargs:
+        names += ["*"] + [one.arg for one in function.args.kwonlyargs]
+    return " ".join(names)
+
+
+def parents(tree):
+    """By node the one above it."""
+    return {under: node for node in ast.walk(tree) for under in ast.iter_child_nodes(node)}
 
 
 def defined(body, kind):
@@ -188,11 +222,67 @@ class Rules(unittest.TestCase):
     def test_what_is_not_used(self):
         for name, tree in trees().items():
             for node in ast.walk(tree):
-                barred = (ast.Div, ast.AsyncFunctionDef, ast.Await)
+                barred = (
+                    ast.Div, ast.AsyncFunctionDef, ast.Await, ast.Global, ast.Nonlocal, ast.With, ast.Yield, ast.YieldFrom,
+                    ast.GeneratorExp, ast.Lambda, ast.AugAssign, ast.NamedExpr, ast.AnnAssign, ast.Assert, ast.Match,
+                )
                 self.assertNotIsInstance(node, barred, (name, getattr(node, "lineno", 0)))
                 if isinstance(node, ast.Constant):
-                    self.assertNotIsInstance(node.value, (float, complex), name)
+                    self.assertNotIsInstance(node.value, (float, complex, bytes), name)
                     self.assertFalse(isinstance(node.value, str) and "%" in node.value, name)
+
+    def test_what_is_iterated_at_once(self):
+        """Ranges, zips, enumerates, reverseds and views are gone through where they stand."""
+        views = ("items", "keys", "values")
+        takers = ("list", "tuple", "dict", "sorted", "sum", "any", "all", "enumerate", "zip", "min", "max")
+        for name, tree in trees().items():
+            above = parents(tree)
+            for node in ast.walk(tree):
+                if not isinstance(node, ast.Call):
+                    continue
+                called = node.func.id if isinstance(node.func, ast.Name) else ""
+                view = isinstance(node.func, ast.Attribute) and node.func.attr in views
+                if called not in ("range", "zip", "enumerate", "reversed") and not view:
+                    continue
+                over = above[node]
+                if isinstance(over, (ast.For, ast.comprehension)):
+                    self.assertIs(over.iter, node, (name, node.lineno))
+                elif called == "range" and isinstance(over, ast.Assign):
+                    self.assertIsInstance(over.targets[0], ast.Name, (name, node.lineno))
+                else:
+                    self.assertIsInstance(over, ast.Call, (name, node.lineno))
+                    self.assertIn(getattr(over.func, "id", ""), takers, (name, node.lineno))
+
+    def test_sets(self):
+        """A set is sorted, measured, compared, or asked for a member on the spot."""
+        for name, tree in trees().items():
+            above = parents(tree)
+            for node in ast.walk(tree):
+                made = isinstance(node, ast.Call) and getattr(node.func, "id", "") in ("set", "frozenset")
+                if not made and not isinstance(node, (ast.Set, ast.SetComp)):
+                    continue
+                over = above[node]
+                while isinstance(over, ast.BinOp):
+                    over = above[over]
+                if isinstance(over, ast.Call):
+                    self.assertIn(getattr(over.func, "id", ""), ("sorted", "len"), (name, node.lineno))
+                    self.assertFalse(over.keywords, (name, node.lineno))
+                else:
+                    self.assertIsInstance(over, ast.Compare, (name, node.lineno))
+
+    def test_loops_leave_what_they_go_over(self):
+        """What a loop goes over by its name is not modified in it."""
+        changing = ("append", "extend", "insert", "pop", "remove", "reverse", "clear", "update", "setdefault")
+        for name, tree in trees().items():
+            for loop in ast.walk(tree):
+                if not isinstance(loop, ast.For):
+                    continue
+                gone = {ast.dump(node) for node in ast.walk(loop.iter) if isinstance(node, (ast.Name, ast.Attribute))}
+                for node in ast.walk(ast.Module(loop.body, [])):
+                    if isinstance(node, ast.Call) and isinstance(node.func, ast.Attribute) and node.func.attr in changing:
+                        self.assertNotIn(ast.dump(node.func.value), gone, (name, node.lineno))
+                    if isinstance(node, ast.Subscript) and not isinstance(node.ctx, ast.Load):
+                        self.assertNotIn(ast.dump(node.value), gone, (name, node.lineno))
 
     def test_beside_a_class_that_compares(self):
         for name, tree in trees().items():

@@ -4,7 +4,9 @@
 `least_votes`, `mark` and `ahead`. `had` are the seats by hand to begin with, `given` those that are given.
 """
 
+from wholepoll.lists import voted_for
 from wholepoll.ratios import fraction, least_above, least_from, under
+from wholepoll.sets import with_one
 
 
 def cases_of(by, votes, had, given):
@@ -26,6 +28,19 @@ def cases_of(by, votes, had, given):
 def least_need(cases):
     """The least need of some cases."""
     return min([case[3] for case in cases])
+
+
+def lines_for(sheet, case):
+    """The lines of a sheet whose ballots are changed by what a case tells of."""
+    word, b, a, _ = case
+    if word == "rise":
+        return [line for line in sheet if voted_for(line[0]) != a]
+    return [line for line in sheet if voted_for(line[0]) == b]
+
+
+def slip_by(case):
+    """The slip that the ballots get by what a case tells of."""
+    return () if case[0] == "fall" else (with_one(0, case[2]),)
 
 
 def can_turn(by, votes, unseen, least, had, given):

@@ -26,7 +26,7 @@ class House:
 
     def in_all(self):
         """By hand the seats in all."""
-        return _added(self.by_area() + [self.of_evening()], self._land.hands)
+        return added(self.by_area() + [self.of_evening()], self._land.hands)
 
     def paper(self):
         """A tuple: the papers of the areas, and the paper of evening."""
@@ -48,9 +48,10 @@ class House:
 
     def _evening(self):
         """The paper of evening, which begins with all seats of the areas."""
-        had = _added(self.by_area(), self._land.hands)
+        had = added(self.by_area(), self._land.hands)
         return evening(self._land, self._land.votes(self._sheets), had)
 
 
-def _added(rows, hands):
+def added(rows, hands):
+    """By hand the seats of some outcomes together."""
     return [sum([row[hand] for row in rows]) for hand in range(hands)]

@@ -1,9 +1,8 @@
 """Listmargin: margins of an area that counts by lists."""
 
-from wholepoll.cases import can_turn, cases_of, least_need
-from wholepoll.lists import voted_for, votes_of
+from wholepoll.cases import can_turn, cases_of, least_need, lines_for, slip_by
+from wholepoll.lists import votes_of
 from wholepoll.margins import Margin
-from wholepoll.sets import with_one
 from wholepoll.sheets import ballots_in
 from wholepoll.shifts import taken
 
@@ -29,7 +28,7 @@ class ListsMargin(Margin):
         cases = self._cases(sheet)
         low = least_need(cases)
         case = [one for one in cases if one[3] == low][0]
-        return (low, _change(sheet, case), None)
+        return (low, taken(lines_for(sheet, case), slip_by(case), low), None)
 
     def told(self, sheet):
         """None where no other outcome is possible, else a tuple (low, low, cases, change)."""
@@ -44,13 +43,3 @@ class ListsMargin(Margin):
     def _cases(self, sheet):
         votes = votes_of(sheet, self.way.hands)
         return cases_of(self.way, votes, [0] * self.way.hands, self.way.outcome(sheet))
-
-
-def _change(sheet, case):
-    """The change that a case tells of."""
-    word, b, a, need = case
-    if word == "rise":
-        others = [line for line in sheet if voted_for(line[0]) != a]
-        return taken(others, (with_one(0, a),), need)
-    lost = [line for line in sheet if voted_for(line[0]) == b]
-    return taken(lost, () if word == "fall" else (with_one(0, a),), need)

@@ -2,7 +2,8 @@
 
 from wholepoll.divisors import hurdle_of, is_hurdle, is_step, mark_by, rounds_by, seats_by, votes_needed
 from wholepoll.errors import NoWay
-from wholepoll.sets import members
+from wholepoll.sets import members, with_one
+from wholepoll.sheets import joined
 from wholepoll.ways import Way
 
 
@@ -22,6 +23,13 @@ def votes_of(sheet, hands):
         place = hands if hand is None else hand
         votes[place] = votes[place] + number
     return votes
+
+
+def sheet_by(votes):
+    """A sheet with so many votes by hand, and last so many empty ballots."""
+    lines = [((with_one(0, hand),), many) for hand, many in enumerate(votes[:-1])]
+    lines.append(((), votes[-1]))
+    return joined([[line for line in lines if line[1] > 0]])
 
 
 class Lists(Way):

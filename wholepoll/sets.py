@@ -29,3 +29,18 @@ def size(mask):
 def members(mask):
     """The hands of a mask, rising."""
     return [hand for hand in range(mask.bit_length()) if holds(mask, hand)]
+
+
+def is_within(mask, other):
+    """Whether all hands of a mask are in another one."""
+    return mask & other == mask
+
+
+def innermost(masks):
+    """Those of some unlike masks, in their order, that have no other one within them."""
+    return [mask for mask in masks if not any([is_within(other, mask) and other != mask for other in masks])]
+
+
+def outermost(masks):
+    """Those of some unlike masks, in their order, that lie within no other one."""
+    return [mask for mask in masks if not any([is_within(mask, other) and other != mask for other in masks])]
