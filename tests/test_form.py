@@ -81,6 +81,25 @@ FUNCTIONS = {
         "outcomes": "land seen unseen", "houses": "land seen unseen", "between": "land seen unseen",
         "sheets_for": "land seen unseen outcome", "is_settled": "land seen unseen",
     },
+    "power": {
+        "wins": "seats group", "alike_seats": "one other", "least_winning": "seats", "turns": "seats", "shares": "seats",
+    },
+    "majorities": {
+        "sure_majorities": "land seen unseen", "open_areas": "land seen unseen", "can_win": "land seen unseen group",
+    },
+    "deeds": {
+        "is_deed": "thing areas hands", "number_of": "deed", "standing_deeds": "deeds", "clashing_deeds": "deeds",
+        "bundles_by": "deeds areas",
+    },
+    "reaches": {"reached": "poll deed", "idle": "poll"},
+    "notation": {
+        "show_slip": "slip words", "show_line": "line words", "show_telling": "telling", "show_envelope": "envelope words",
+        "show_deed": "deed words", "show_deeds": "deeds words", "show_house": "house words", "show_outcome": "house words",
+    },
+    "readers": {
+        "read_slip": "text words", "read_line": "text words", "read_telling": "text", "read_envelope": "text words",
+        "read_deed": "text words areas", "read_deeds": "text words areas",
+    },
 }
 CLASSES = {
     "errors": {
@@ -147,6 +166,16 @@ CLASSES = {
         "__init__": "self land bundles number", "unlooked": "self", "known": "self", "word": "self", "due": "self",
         "found": "self lines",
     })},
+    "polls": {"Poll": ("", {
+        "__init__": "self land rules", "__eq__": "self other", "put": "self deed", "out": "self deed", "deeds": "self",
+        "standing": "self", "envelopes": "self", "struck": "self", "mail": "self", "boxes": "self", "sheets": "self",
+        "roll": "self", "verdicts": "self", "house": "self", "unlike": "self other", "copied": "self",
+    })},
+    "reaches": {"Ledger": ("", {
+        "__init__": "self poll", "__len__": "self", "put": "self deed", "out": "self deed", "house": "self", "poll": "self",
+        "back": "self", "again": "self", "log": "self",
+    })},
+    "desk": {"Desk": ("", {"__init__": "self land rules words", "say": "self row", "poll": "self"})},
 }
 CLASSES["errors"]["PollError"] = ("ValueError", {})
 CLASSES["errors"]["WrongNumber"] = ("PollError", {"__init__": "self wanted got"})

@@ -2,7 +2,7 @@
 
 from wholepoll.errors import NoRoll, NoTelling
 from wholepoll.lives import area_to_vote, life_of, lives_of, state_on
-from wholepoll.tellings import LAST_AREA, clashing, is_telling, standing
+from wholepoll.tellings import LAST_AREA, clashing, is_telling, is_telling_in, standing
 from wholepoll.words import is_count
 
 
@@ -14,7 +14,7 @@ class Roll:
             raise NoRoll("a land has 1 to 6 areas")
         if not isinstance(tellings, (list, tuple)):
             raise NoRoll("tellings come in a list or a tuple")
-        if not all([_is_for(telling, areas) for telling in tellings]):
+        if not all([is_telling_in(telling, areas) for telling in tellings]):
             raise NoRoll("that is no telling for so many areas")
         self.areas = areas
         self._came = {telling: True for telling in tellings}
@@ -33,7 +33,7 @@ class Roll:
 
     def tell(self, telling):
         """Tells one more telling; answers whether it is a new one."""
-        if not _is_for(telling, self.areas):
+        if not is_telling_in(telling, self.areas):
             raise NoRoll("that is no telling for so many areas")
         if telling in self._came:
             return False
@@ -91,7 +91,3 @@ class Roll:
         """By voter, rising, of all of `everybody`: the area to vote in on a day, or None."""
         lives = lives_of(list(self._came))
         return {voter: area_to_vote(lives[voter], day, wait) for voter in lives}
-
-
-def _is_for(thing, areas):
-    return is_telling(thing) and (thing[4] is None or thing[4] < areas)

@@ -1,6 +1,7 @@
 """Stretches: the lives of voters by a roll, and what a telling would move."""
 
 from wholepoll.lives import area_to_vote
+from wholepoll.unlike import unlike_keys
 
 
 def stretches(roll, voter):
@@ -40,6 +41,4 @@ def touched(roll, telling, day, wait):
 
 
 def _differing(before, after):
-    voters = sorted(set(list(before) + list(after)))
-    rows = [(voter, before.get(voter), after.get(voter)) for voter in voters]
-    return [row for row in rows if row[1] != row[2]]
+    return [(voter, before.get(voter), after.get(voter)) for voter in unlike_keys(before, after)]

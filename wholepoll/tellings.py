@@ -21,6 +21,11 @@ def is_telling(thing):
     return area is None
 
 
+def is_telling_in(thing, areas):
+    """Whether anything is a telling of a land with so many areas."""
+    return is_telling(thing) and (thing[4] is None or thing[4] < areas)
+
+
 def telling_key(telling):
     """What tellings stand in order by: (day, number)."""
     return (telling[1], telling[0])
