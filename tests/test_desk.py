@@ -52,7 +52,7 @@ class Made(unittest.TestCase):
         for words in (WORDS, tuple(WORDS), ["a", "b", "zzzzzzzz"], ["nobody", "put", "none"]):
             self.assertEqual(Desk(LAND, RULES, words).say("deeds"), "0")
         for words in anything_but_lists() + [
-            [], WORDS[:2], WORDS + ["more"], ["red", "green", "red"], ["red", "green", "Blue"], ["red", "green", ""], ["red", "green", "bluebluebl"],
+            [], WORDS[:2], WORDS + ["more"], WORDS + ["red"], ["red", "green", "red"], ["red", "green", "Blue"], ["red", "green", ""], ["red", "green", "bluebluebl"],
             ["red", "green", "b1"], ["red", "green", "-"], ("red", "green"), ("red", "red", "blue"), {"red": 0, "green": 1, "blue": 2}, "abc",
             ["red", "green", ["blue"]],
         ]:

@@ -67,9 +67,9 @@ class Standing(unittest.TestCase):
 
     def test_any_order(self):
         one, two, three = (7, "a", 0, 3, ()), (2, "b", 0, 3, ()), (1, "a", 1, 9, (1,))
-        torn, torn_too = (4, "c", 0, 1, (1,)), (4, "c", 0, 1, (2,))
-        for some in itertools.permutations([one, two, three, torn, torn_too, one]):
-            self.assertEqual(standing_envelopes(list(some)), [two, one, three])
+        torn, torn_too, early = (4, "c", 0, 1, (1,)), (4, "c", 0, 1, (2,)), (9, "d", 5, 1, (3,))
+        for some in itertools.permutations([one, two, three, torn, torn_too, one, early]):
+            self.assertEqual(standing_envelopes(list(some)), [early, two, one, three])
         self.assertEqual(standing_envelopes([]), [])
         self.assertEqual(standing_envelopes([torn, torn_too, torn]), [])
 

@@ -242,6 +242,10 @@ class Unlike(unittest.TestCase):
         # An envelope that stands in one alone, though nobody counts it.
         other = poll_of(DEEDS + [("mail", 40, (77, "cy", 0, 5, ()))])
         self.assertEqual((poll.unlike(other), other.unlike(poll)), (([77], []), ([77], [])))
+        # By number, however these come.
+        numbers = [10 ** 9, 8, 10 ** 8, 64, 1, 10 ** 7 + 1, 33]
+        other = poll_of(DEEDS + [("mail", 40 + place, (number, "cy", 0, 5, ())) for place, number in enumerate(numbers)])
+        self.assertEqual(poll.unlike(other)[0], sorted(numbers))
 
 
 class Own(unittest.TestCase):

@@ -131,6 +131,11 @@ class Alike(unittest.TestCase):
         self.assertFalse(Roll(2) == 2)
         self.assertTrue(Roll(2) != [])
 
+    def test_other_things(self):
+        for thing in [None, 2, "roll", ALL, tuple(ALL), {}, object()]:
+            self.assertIs(Roll(2, ALL) == thing, False)
+            self.assertIs(Roll(2, ALL) != thing, True)
+
     def test_what_does_not_stand_counts_too(self):
         torn = [COMES, COMES[:4] + (1,)]
         self.assertFalse(Roll(2, torn) == Roll(2))

@@ -9,16 +9,14 @@ from wholepoll.words import MOST, is_count
 
 def is_deed(thing, areas, hands):
     """Whether anything is a deed of a land with so many areas and hands."""
-    if not isinstance(thing, tuple) or len(thing) < 3 or not isinstance(thing[0], str):
-        return False
-    if not is_count(thing[1], MOST):
+    if not isinstance(thing, tuple) or len(thing) not in (3, 4):
         return False
     word = thing[0]
+    if not isinstance(word, str) or not is_count(thing[1], MOST):
+        return False
     if len(thing) == 4:
         last = areas - 1 if word == "bundle" else MOST
         return word in ("bundle", "recount") and is_count(thing[2], last) and _are_lines(thing[3], hands)
-    if len(thing) != 3:
-        return False
     if word == "roll":
         return is_telling_in(thing[2], areas)
     if word == "mail":

@@ -33,7 +33,7 @@ class Poll:
 
     def put(self, deed):
         """Puts a deed in; answers whether it is a new one."""
-        if not self.can_have(deed):
+        if not self._can_have(deed):
             raise NoDeed("that is no deed for this land")
         if deed in self._came:
             return False
@@ -43,13 +43,9 @@ class Poll:
     def out(self, deed):
         """Takes a deed out, as if it had never come."""
         # Asked first: 1 and True are alike as keys, and a list can't be one.
-        if not self.can_have(deed) or deed not in self._came:
+        if not self._can_have(deed) or deed not in self._came:
             raise NoDeed("that deed is not there")
         del self._came[deed]
-
-    def can_have(self, thing):
-        """Whether anything is a deed for this land."""
-        return is_deed(thing, len(self.land.areas), self.land.hands)
 
     def deeds(self):
         """The deeds that came, each once, by their numbers, of one number by their `repr`."""
@@ -101,6 +97,10 @@ class Poll:
         other = Poll(self.land, self.rules)
         other._came = {deed: True for deed in self._came}
         return other
+
+    def _can_have(self, thing):
+        """Whether anything is a deed for this land."""
+        return is_deed(thing, len(self.land.areas), self.land.hands)
 
     def _told_by(self, word):
         """What the standing deeds of a word tell, behind their numbers."""

@@ -1,6 +1,6 @@
 """Reaches: what would be otherwise in a poll by one deed, and a poll that is led on deed by deed."""
 
-from wholepoll.errors import NoDeed, Nothing
+from wholepoll.errors import Nothing
 from wholepoll.unlike import unlike_keys, unlike_places
 
 
@@ -40,15 +40,17 @@ class Facts:
 
 def reached(poll, deed):
     """What would be otherwise if a deed were put in, where it isn't there, or taken out, where it is."""
-    if not poll.can_have(deed):
-        raise NoDeed("that is no deed for the poll's land")
-    return _reached_from(_facts_of(poll), poll, deed)
+    # Asked first: it refuses what is no deed.
+    other = _turned(poll, deed)
+    facts = _facts_of(poll)
+    return facts.reached_by(facts.led(other))
 
 
 def idle(poll):
     """The deeds that came of each of which alone nothing is reached."""
     facts = _facts_of(poll)
-    return [deed for deed in poll.deeds() if _reached_from(facts, poll, deed) == ([], [], [], [], [], False)]
+    nothing = ([], [], [], [], [], False)
+    return [deed for deed in poll.deeds() if facts.reached_by(facts.led(_turned(poll, deed))) == nothing]
 
 
 class Ledger:
@@ -109,7 +111,7 @@ class Ledger:
         return self._lead()
 
     def _turn(self, comes, deed, turned):
-        if turned and comes:
+        if comes:
             self._poll.put(deed)
         elif turned:
             self._poll.out(deed)
@@ -126,8 +128,9 @@ def _facts_of(poll):
     return Facts(poll, poll.house())
 
 
-def _reached_from(facts, poll, deed):
+def _turned(poll, deed):
+    """The poll with a deed put in, where it isn't there, or taken out, where it is."""
     other = poll.copied()
     if not other.put(deed):
         other.out(deed)
-    return facts.reached_by(facts.led(other))
+    return other

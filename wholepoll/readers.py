@@ -15,7 +15,7 @@ MOST_FIGURES = 10
 
 def read_number(text):
     """The whole number that has a text of one to ten figures."""
-    if not isinstance(text, str) or not 1 <= len(text) <= MOST_FIGURES:
+    if not 1 <= len(text) <= MOST_FIGURES:
         raise NoText("a number has one to ten figures")
     if not all([sign in FIGURES for sign in text]) or (text[0] == "0" and len(text) > 1):
         raise NoText("a number is written in figures without a needless nought ahead")
