@@ -8,8 +8,7 @@ class Facts:
     """What of a poll a deed may reach."""
 
     def __init__(self, poll, house):
-        day, wait, _, _ = poll.rules
-        self.home_by_voter = poll.roll().homes(day, wait)
+        self.home_by_voter = poll.roll().homes(poll.rules[0], poll.rules[1])
         self.word_by_envelope = poll.verdicts()
         self.lines_by_bundle = {}
         for box in poll.boxes():
